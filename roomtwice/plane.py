@@ -88,3 +88,23 @@ def fraction(above, below):
     if below < 0:
         divisor = -divisor
     return [above // divisor, below // divisor]
+
+
+def line_told(line):
+    """Without a common divisor, the first number that is not 0 above 0."""
+    divisor = common_divisor(common_divisor(line[0], line[1]), line[2])
+    leading = [number for number in line if number != 0][0]
+    if leading < 0:
+        divisor = -divisor
+    return [number // divisor for number in line]
+
+
+def ratio(one, other):
+    """How many times the other the one is, which are the same up to a factor, as a number above and one below.
+
+    None where the other is three times 0.
+    """
+    for k in range(3):
+        if other[k] != 0:
+            return (one[k], other[k])
+    return None

@@ -5,6 +5,7 @@ The second way knows nothing of the package: it solves equations over fractions.
 
 from fractions import Fraction
 from functools import lru_cache
+from math import lcm
 
 from roomtwice.pictures import answers
 
@@ -12,6 +13,9 @@ NUMBERS = {
     "start": 0, "floor": 1, "thing": 2, "drop": 3, "ready": 4, "across": 5, "back": 6, "stand": 7, "stand1": 8,
     "track": 9, "track1": 10, "may": 11, "lies": 12, "lift": 13, "cut": 14, "fits": 15, "state": 16,
 }
+
+LEAST = -2147483648
+GREATEST = 2147483647
 
 # (u, v) is taken to ((4u + 2v) / (2 + v), 4v / (2 + v)),
 # (s, t) is taken back to ((2s - t) / (4 - t), 2t / (4 - t)).
@@ -61,6 +65,15 @@ def ask_in(floors, things, *calls):
 def turned(four):
     """The second picture as the first, and the first as the second."""
     return [(s, t, u, v) for u, v, s, t in four]
+
+
+def told_as(x, y):
+    """The answer that tells a place."""
+    return [0, x.numerator, x.denominator, y.numerator, y.denominator]
+
+
+def whole(u, v):
+    return [0, u, 1, v, 1]
 
 
 def solutions(rows, width):
@@ -116,10 +129,16 @@ def through(nine, point):
 def place_told(point):
     if point[2] == 0:
         return [-6]
-    told = [0]
-    for part in (point[0] / point[2], point[1] / point[2]):
-        told += [part.numerator, part.denominator]
-    return told
+    return told_as(Fraction(point[0]) / point[2], Fraction(point[1]) / point[2])
+
+
+def line_told(line):
+    """The one way to tell a line, of a line by fractions; -33 where there is none, or it is beyond all."""
+    if line is None or line[0] == line[1] == 0:
+        return [-33]
+    line = [n / (line[0] or line[1]) for n in line]
+    below = lcm(*[n.denominator for n in line])
+    return [0] + [int(n * below) for n in line]
 
 
 class Reckoned:
@@ -168,17 +187,20 @@ class Reckoned:
                     return False
         return True
 
-    def over(self):
-        return view(tuple(self.kept[0][:4]))
+    def over(self, point):
+        return through(view(tuple(self.kept[0][:4])), (*point, 1))
 
-    def home(self):
+    def homeward(self):
         return view(tuple(turned(self.kept[0][:4])))
+
+    def home(self, point):
+        return through(self.homeward(), (*point, 1))
 
     def meeting(self):
         """The stand, or None where it is not ready."""
         if not self.known() or len(self.kept[1]) < 2:
             return None
-        lines = [only([through(self.over(), (u, v, 1)), (s, t, 1)]) for u, v, s, t in self.kept[1][:2]]
+        lines = [only([self.over((u, v)), (s, t, 1)]) for u, v, s, t in self.kept[1][:2]]
         if None in lines:
             return None
         return only(lines)
@@ -188,26 +210,79 @@ class Reckoned:
             return [2]
         return [1 if self.known() else 0]
 
-    def across(self, *numbers):
-        return self.taken(numbers, self.over)
-
-    def back(self, *numbers):
-        return self.taken(numbers, self.home)
-
-    def taken(self, numbers, nine):
-        if not set(numbers) <= set(range(101)):
+    def refused(self, point, is_known):
+        if not set(point) <= set(range(101)):
             return [-22]
-        if not self.known():
-            return [-16]
-        return place_told(through(nine(), (*numbers, 1)))
+        return None if is_known else [-16]
+
+    def across(self, *point):
+        return self.refused(point, self.known()) or place_told(self.over(point))
+
+    def back(self, *point):
+        return self.refused(point, self.known()) or place_told(self.home(point))
 
     def stand(self):
-        point = self.meeting()
-        return [-16] if point is None else place_told(point)
+        return self.refused((), self.meeting()) or place_told(self.meeting())
 
     def stand1(self):
-        point = self.meeting()
-        return [-16] if point is None else place_told(through(self.home(), point))
+        return self.refused((), self.meeting()) or place_told(through(self.homeward(), self.meeting()))
+
+    def track(self, *point):
+        return self.refused(point, self.meeting()) or line_told(only([self.meeting(), self.over(point)]))
+
+    def track1(self, *point):
+        if self.refused(point, self.meeting()):
+            return self.refused(point, self.meeting())
+        return line_told(only([through(self.homeward(), self.meeting()), self.home(point)]))
+
+    def is_on_track(self, u, v, s, t):
+        """Whether there is a line at all through the stand, where the one is taken, and the other."""
+        return solutions([self.meeting(), self.over((u, v)), (s, t, 1)], 3) != []
+
+    def may(self, *seen):
+        return self.refused(seen, self.meeting()) or [int(self.is_on_track(*seen))]
+
+    def is_on_floor(self, u, v, s, t):
+        """Whether there is more than one line through where the one is taken, and the other."""
+        return only([self.over((u, v)), (s, t, 1)]) is None
+
+    def lies(self, *seen):
+        return self.refused(seen, self.known()) or [int(self.is_on_floor(*seen))]
+
+    def lift_alone(self, u, v, s, t):
+        """So many times the three together are nowhere; None where there is no one way, or not with all it needs."""
+        three = [self.over((u, v)), self.meeting(), (s, t, 1)]
+        counts = only(list(zip(*three)))
+        if counts is None or counts[0] == 0 or counts[2] == 0:
+            return None
+        return counts[1] / counts[0]
+
+    def lift(self, *seen):
+        if self.refused(seen, self.meeting()):
+            return self.refused(seen, self.meeting())
+        asked, beside = self.lift_alone(*seen), self.lift_alone(*self.kept[1][0])
+        if asked is None or beside is None:
+            return [-33]
+        return [0, (asked / beside).numerator, (asked / beside).denominator]
+
+    def cut(self, u, v, a, b, c):
+        if max(abs(a), abs(b)) > 1000 or abs(c) > 100000 or (a, b) == (0, 0):
+            return [-22]
+        if self.refused((u, v), self.meeting()):
+            return self.refused((u, v), self.meeting())
+        line = only([self.meeting(), self.over((u, v))])
+        point = line and only([line, (a, b, c)])
+        return place_told(point) if point else [-33]
+
+    def fits(self):
+        if self.refused((), self.meeting()):
+            return [-16]
+        floors, things = self.kept
+        return [int(all(self.is_on_floor(*f) for f in floors) and all(self.is_on_track(*t) for t in things))]
+
+    def state(self):
+        floors, things = self.kept
+        return [len(floors), len(things)] + [n for seen in floors + things for n in seen]
 
 
 def reckoned(calls):

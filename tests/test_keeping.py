@@ -1,12 +1,10 @@
-"""start, floor, thing, drop, and the shape of the answers."""
+"""start, floor, thing, drop, state, and the shape of the answers."""
 
 import unittest
 
 from roomtwice.pictures import answers
-from tests.helper import LEANING, NUMBERS, STILL, ask, ask_in, flat, room
+from tests.helper import GREATEST, LEANING, LEAST, NUMBERS, STILL, ask, ask_in, flat, room
 
-LEAST = -2147483648
-GREATEST = 2147483647
 ENDLESS = 4294967295
 
 SIZES = {
@@ -187,6 +185,59 @@ class Drop(unittest.TestCase):
         things = [(1, 0, 2, 3), (2, 2, 4, 2), (2, 2, 2, 4)]
         told = ask_in(LEANING, things, ("drop", 1, 2), ("stand",), ("drop", 1, 2))
         self.assertEqual(told, [[2], [0, 2, 1, 2, 1], [-2]])
+
+
+class State(unittest.TestCase):
+    def test_nothing_is_there(self):
+        self.assertEqual(ask(("start",), ("state",)), [[0], [0, 0]])
+        self.assertEqual(ask_in(LEANING, [(1, 2, 3, 4)], ("start",), ("state",)), [[0], [0, 0]])
+
+    def test_before_a_start(self):
+        self.assertEqual(ask(("state",), ("start",), ("state",)), [[-11], [0], [0, 0]])
+
+    def test_floor_points_first(self):
+        told = ask(("start",), ("thing", 1, 2, 3, 4), ("floor", 5, 6, 7, 8), ("thing", 9, 10, 11, 12), ("state",))
+        self.assertEqual(told[-1], [1, 2, 5, 6, 7, 8, 1, 2, 3, 4, 9, 10, 11, 12])
+
+    def test_one_kind_alone(self):
+        self.assertEqual(ask_in([(1, 2, 3, 4)], [], ("state",)), [[1, 0, 1, 2, 3, 4]])
+        self.assertEqual(ask_in([], [(1, 2, 3, 4)], ("state",)), [[0, 1, 1, 2, 3, 4]])
+
+    def test_all_twelve(self):
+        floors = [(k, 10 + k, 20 + k, 30 + k) for k in range(6)]
+        things = [(100 - k, 90 - k, 80 - k, 70 - k) for k in range(6)]
+        numbers = [number for seen in floors + things for number in seen]
+        self.assertEqual(ask_in(floors, things, ("state",)), [[6, 6] + numbers])
+
+    def test_it_need_not_be_ready(self):
+        self.assertEqual(ask_in([(1, 1, 1, 1)] * 4, [], ("state",)), [[4, 0] + [1] * 16])
+
+    def test_the_edges(self):
+        told = ask_in([(0, 100, 0, 100)], [(100, 0, 100, 0)], ("state",))
+        self.assertEqual(told, [[1, 1, 0, 100, 0, 100, 100, 0, 100, 0]])
+
+    def test_what_is_refused_is_not_there(self):
+        seven = [(k, k, k, k) for k in range(7)]
+        numbers = [number for seen in seven[:6] for number in seen]
+        self.assertEqual(ask_in(seven, [], ("state",)), [[6, 0] + numbers])
+        self.assertEqual(ask_in([], seven, ("state",)), [[0, 6] + numbers])
+        self.assertEqual(ask_in([(1, 2, 3, 101)], [(-1, 2, 3, 4)], ("state",)), [[0, 0]])
+
+    def test_those_behind_what_is_gone_have_one_number_less(self):
+        three = [(1, 2, 3, 4), (5, 6, 7, 8), (9, 10, 11, 12)]
+        for i in range(3):
+            left = [number for k in range(3) if k != i for number in three[k]]
+            self.assertEqual(ask_in(three, [], ("drop", 0, i), ("state",)), [[2], [2, 0] + left])
+            self.assertEqual(ask_in([], three, ("drop", 1, i), ("state",)), [[2], [0, 2] + left])
+            self.assertEqual(ask_in(three, three[:1], ("drop", 0, i), ("state",))[1], [2, 1] + left + [1, 2, 3, 4])
+
+    def test_a_new_one_stands_behind(self):
+        told = ask_in([(1, 2, 3, 4), (5, 6, 7, 8)], [], ("drop", 0, 0), ("floor", 9, 9, 9, 9), ("state",))
+        self.assertEqual(told, [[1], [1], [2, 0, 5, 6, 7, 8, 9, 9, 9, 9]])
+
+    def test_what_is_refused_drops_nothing(self):
+        told = ask_in([(1, 2, 3, 4)], [(5, 6, 7, 8)], ("drop", 0, 1), ("drop", 1, 1), ("drop", 2, 0), ("state",))
+        self.assertEqual(told, [[-2], [-2], [-22], [1, 1, 1, 2, 3, 4, 5, 6, 7, 8]])
 
 
 class Shape(unittest.TestCase):

@@ -1,36 +1,22 @@
-"""across, back, stand, stand1: where points are taken, and where the first picture was taken from."""
+"""across, back, lies, stand, stand1: where points are taken, and where the first picture was taken from."""
 
 import doctest
-import random
 import unittest
 from fractions import Fraction
-from itertools import product
 from math import gcd
 from pathlib import Path
 
 from roomtwice.pictures import answers
-from tests.helper import LEANING, STILL, ask, ask_in, only, reckoned, turned
-
-LEAST = -2147483648
-GREATEST = 2147483647
+from tests.helper import GREATEST, LEANING, LEAST, STILL, ask, ask_in, told_as, turned, whole
 
 CROOKED = [(3, 7, 88, 12), (95, 14, 71, 93), (64, 99, 5, 60), (11, 42, 40, 2)]
 
 
-def told_as(x, y):
-    """The answer that tells a place."""
-    return [0, x.numerator, x.denominator, y.numerator, y.denominator]
-
-
-def whole(u, v):
-    return [0, u, 1, v, 1]
-
-
 class Told(unittest.TestCase):
-    def test_the_example_of_the_readme(self):
+    def test_the_examples_of_the_readme(self):
         readme = Path(__file__).parent.parent / "README.md"
         told = doctest.testfile(str(readme), module_relative=False, globs={"answers": answers})
-        self.assertEqual((told.failed, told.attempted), (0, 1))
+        self.assertEqual((told.failed, told.attempted), (0, 2))
 
 
 class Refused(unittest.TestCase):
@@ -149,6 +135,53 @@ class Taken(unittest.TestCase):
                             self.assertGreaterEqual(min(told[2], told[4]), 1)
 
 
+class Lies(unittest.TestCase):
+    def test_on_the_floor(self):
+        for seen in LEANING + [(1, 0, 2, 0), (5, 2, 6, 2), (3, 6, 3, 3), (1, 2, 2, 2)]:
+            with self.subTest(seen):
+                self.assertEqual(ask_in(LEANING, [], ("lies", *seen)), [[1]])
+                self.assertEqual(ask_in(turned(LEANING), [], ("lies", *turned([seen])[0])), [[1]])
+
+    def test_off_the_floor(self):
+        off = [(1, 0, 2, 1), (1, 0, 3, 0), (0, 0, 1, 0), (0, 0, 0, 1), (0, 0, 1, 1), (5, 2, 5, 2), (3, 6, 100, 3)]
+        for seen in off:
+            with self.subTest(seen):
+                self.assertEqual(ask_in(LEANING, [], ("lies", *seen)), [[0]])
+
+    def test_taken_to_between_whole_numbers(self):
+        for s, t in ((2, 1), (2, 2), (6, 4), (1, 1)):
+            self.assertEqual(ask_in(LEANING, [], ("lies", 1, 1, s, t)), [[0]])
+
+    def test_taken_to_beyond_all(self):
+        # Across takes (2, 4) to beyond all, as 0, 8, 0.
+        for s, t in ((0, 0), (0, 8), (0, 1), (0, 100), (2, 4)):
+            self.assertEqual(ask_in(turned(LEANING), [], ("across", 2, 4), ("lies", 2, 4, s, t)), [[-6], [0]])
+
+    def test_beyond_the_four(self):
+        self.assertEqual(ask_in(STILL, [], ("lies", 100, 100, 100, 100), ("lies", 0, 100, 0, 100)), [[1], [1]])
+        self.assertEqual(ask_in(STILL, [], ("lies", 100, 100, 99, 100), ("lies", 0, 100, 100, 0)), [[0], [0]])
+
+    def test_a_fifth_floor_point_that_does_not_fit(self):
+        self.assertEqual(ask_in(LEANING + [(1, 0, 9, 9)], [], ("lies", 1, 0, 9, 9), ("lies", 1, 0, 2, 0)), [[0], [1]])
+
+    def test_a_thing_that_is_on_the_floor(self):
+        things = [(1, 0, 2, 0), (1, 0, 2, 3)]
+        self.assertEqual(ask_in(LEANING, things, ("lies", *things[0]), ("lies", *things[1])), [[1], [0]])
+
+    def test_outside(self):
+        for floors in (STILL, STILL[:3], []):
+            for place in range(4):
+                for number in (-1, 101, -100, 1000, LEAST, GREATEST):
+                    seen = [50] * 4
+                    seen[place] = number
+                    with self.subTest((floors, seen)):
+                        self.assertEqual(ask_in(floors, [], ("lies", *seen)), [[-22]])
+
+    def test_unknown(self):
+        for floors in ([], STILL[:3], [STILL[0]] * 4):
+            self.assertEqual(ask_in(floors, [(1, 1, 3, 5), (2, 5, 0, 0)], ("lies", 0, 0, 0, 0)), [[-16]])
+
+
 class Stand(unittest.TestCase):
     def assert_stands(self, floors, things, stand, stand1):
         self.assertEqual(ask_in(floors, things, ("stand",), ("stand1",)), [stand, stand1])
@@ -190,115 +223,6 @@ class Stand(unittest.TestCase):
 
     def test_a_thing_taken_to_the_stand(self):
         self.assert_stands(LEANING, [(1, 2, 2, 9), (2, 2, 4, 2)], whole(2, 2), whole(1, 2))
-
-
-class InTruth(unittest.TestCase):
-    """Rooms that are known, and two pictures taken of them."""
-
-    # Each row: so many times x, y, z (up from the floor) and 1; the third row is what is divided by.
-    CAMERAS = [
-        (((4, 0, 2, 6), (2, 4, -3, 4), (0, 0, 0, 2)), ((12, 6, 0, 66), (-6, 12, -9, 24), (0, 1, -1, 1))),
-        (((6, 4, -2, 0), (2, 6, -7, 24), (1, 0, -1, 1)), ((8, 4, -1, 32), (6, 8, 0, 24), (0, 0, 0, 1))),
-        (((12, 2, -7, 60), (6, 12, 0, 0), (1, 0, 0, 1)), ((12, 6, -1, 60), (-6, 12, -5, 24), (1, 0, 0, 1))),
-        (((6, 6, -2, 15), (4, 6, 2, 9), (0, 1, -1, 1)), ((8, 4, 4, 36), (4, 8, -4, 8), (0, 1, -1, 2))),
-        (((12, 0, -2, 12), (0, 12, 7, 12), (0, 0, -1, 6)), ((6, 6, 3, 18), (-6, 6, 2, 33), (1, 0, -1, 5))),
-    ]
-
-    def shown(self, camera, point):
-        return [sum(a * b for a, b in zip(row, point)) for row in camera]
-
-    def on_the_picture(self, camera, point):
-        x, y, w = self.shown(camera, point)
-        if w == 0 or x % w or y % w or not (0 <= x // w <= 100 and 0 <= y // w <= 100):
-            return None
-        return (x // w, y // w)
-
-    def seen_in_both(self, cameras, heights):
-        """Of the whole and half steps of the room all that both pictures show at whole numbers."""
-        found = {}
-        for parts in (1, 2):
-            for x, y, z in product(range(13 * parts), range(13 * parts), heights):
-                places = [self.on_the_picture(camera, (x, y, z * parts, parts)) for camera in cameras]
-                if None not in places:
-                    found[places[0] + places[1]] = True
-        return list(found)
-
-    def four_corners(self, floors, choice):
-        while True:
-            four = choice.sample(floors, 4)
-            if ask_in(four, [], ("ready",)) == [[1]]:
-                return four
-
-    def place(self, point):
-        if point[2] == 0:
-            return [-6]
-        return told_as(Fraction(point[0]) / point[2], Fraction(point[1]) / point[2])
-
-    def test_the_floor_lies_where_it_is_told_and_the_stand_is_where_the_other_was_taken_from(self):
-        choice = random.Random(7)
-        for cameras in self.CAMERAS:
-            floors = self.seen_in_both(cameras, (0,))
-            things = self.seen_in_both(cameras, (1, 2, 3))
-            stand = self.place(self.shown(cameras[1], only(cameras[0], 4)))
-            stand1 = self.place(self.shown(cameras[0], only(cameras[1], 4)))
-            ready = 0
-            for turn in range(20):
-                four = self.four_corners(floors, choice)
-                for u, v, s, t in floors:
-                    self.assertEqual(ask_in(four, [], ("across", u, v), ("back", s, t)), [whole(s, t), whole(u, v)])
-                two = choice.sample(things, 2)
-                told = ask_in(four, two, ("ready",), ("stand",), ("stand1",))
-                if told[0] == [2]:
-                    ready += 1
-                    self.assertEqual(told[1:], [stand, stand1])
-            self.assertGreater(ready, 5)
-
-
-class SecondWay(unittest.TestCase):
-    """Whatever calls, beside the answers reckoned by solving equations."""
-
-    def some_points(self, choice, most, many):
-        def number():
-            return choice.choice((-1, 101, LEAST, GREATEST)) if choice.random() < 0.01 else choice.randint(0, most)
-
-        return tuple(number() for k in range(many))
-
-    def some_floors(self, choice, most):
-        """Four floor points, more often than not such that the floors are known."""
-        for turn in range(30):
-            calls = [("start",)] + [("floor", *self.some_points(choice, most, 4)) for k in range(4)]
-            if reckoned(calls + [("ready",)])[-1] == [1]:
-                break
-        return calls
-
-    def some_calls(self, choice, most, length):
-        calls = [("ready",)] if choice.random() < 0.1 else []
-        calls += self.some_floors(choice, most)
-        calls += [("thing", *self.some_points(choice, most, 4)) for k in range(choice.randint(1, 3))]
-        names = ("across", "back", "stand", "stand1", "ready") * 8 + ("floor", "thing", "drop") * 3 + ("start",)
-        for k in range(length):
-            name = choice.choice(names)
-            many = {"floor": 4, "thing": 4, "across": 2, "back": 2}.get(name, 0)
-            if name == "drop":
-                calls.append((name, choice.randint(0, 2), choice.randint(0, 5)))
-            else:
-                calls.append((name, *self.some_points(choice, most, many)))
-        return calls
-
-    def test_whatever_calls(self):
-        choice = random.Random(1)
-        firsts = {}
-        for turn in range(400):
-            calls = self.some_calls(choice, choice.choice((2, 4, 10, 100)), 20)
-            told = ask(*calls)
-            self.assertEqual(told, reckoned(calls))
-            for call, answer in zip(calls, told):
-                firsts[(call[0], answer[0])] = True
-        for name in ("across", "back", "stand", "stand1"):
-            for first in (0, -6, -16):
-                self.assertIn((name, first), firsts)
-        for first in (0, 1, 2):
-            self.assertIn(("ready", first), firsts)
 
 
 if __name__ == "__main__":
